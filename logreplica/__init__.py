@@ -1,0 +1,1 @@
+"""Logreplica: one row of entries kept by many."""
